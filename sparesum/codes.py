@@ -63,8 +63,8 @@ def mended(code, points):
         raise InvalidPoints(points)
     if len(points) < code.symbols + 2:
         raise TooFew(len(points))
-    # Without the point just behind the first ones the data come of these alone: right, unless one of them is
-    # wrong. Then they are right without that one. So there is no other point that would have to be left out.
+    # The first try leaves out the point just behind the first ones: it is right unless one of these is wrong.
+    # Such a one is then the only wrong point, and the try that leaves it out takes right points only.
     for left_out in range(code.symbols, -1, -1):
         others = [*points[:left_out], *points[left_out + 1:]]
         data = data_through(code.prime, others[:code.symbols])
