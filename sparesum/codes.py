@@ -2,7 +2,7 @@
 
 from sparesum.errors import InvalidData, InvalidLength, InvalidPoints, InvalidPrime, InvalidSymbols, NoWord, TooFew
 from sparesum.numbers import MOST_SYMBOLS, data_through, is_prime, symbol_at
-from sparesum.shapes import are_points, is_ascending, is_between, is_integer, is_tuple_below
+from sparesum.shapes import are_ascending_points, is_between, is_integer, is_tuple_below
 
 
 class Code:
@@ -78,7 +78,7 @@ def _word_of(code, data):
 
 
 def _are_points_of(code, points):
-    return are_points(points, code.length, code.prime) and is_ascending([point[0] for point in points])
+    return are_ascending_points(points, code.length, code.prime)
 
 
 def _fit(code, points):

@@ -15,6 +15,11 @@ def is_list(value):
     return isinstance(value, (list, tuple))
 
 
+def is_tuple_of(value, length):
+    """Whether the value is a tuple with so many items, whatever these are."""
+    return isinstance(value, tuple) and len(value) == length
+
+
 def is_tuple_below(value, limit):
     """Whether the value is a tuple of integers from 0 to limit - 1."""
     return isinstance(value, tuple) and all([is_between(item, 0, limit - 1) for item in value])
@@ -22,7 +27,7 @@ def is_tuple_below(value, limit):
 
 def is_point(value, places, limit):
     """Whether the value is a tuple of an integer below places and one below limit, both from 0 on."""
-    if not isinstance(value, tuple) or len(value) != 2:
+    if not is_tuple_of(value, 2):
         return False
     return is_between(value[0], 0, places - 1) and is_between(value[1], 0, limit - 1)
 
@@ -30,6 +35,16 @@ def is_point(value, places, limit):
 def are_points(value, places, limit):
     """Whether the value is a list of points, in any order."""
     return is_list(value) and all([is_point(item, places, limit) for item in value])
+
+
+def are_ascending_points(value, places, limit):
+    """Whether the value is a list of points whose first integers ascend."""
+    return are_points(value, places, limit) and is_ascending([point[0] for point in value])
+
+
+def are_ascending_numbers(value, limit):
+    """Whether the value is a list of integers from 0 to limit - 1 that ascend."""
+    return is_list(value) and all([is_between(item, 0, limit - 1) for item in value]) and is_ascending(value)
 
 
 def is_ascending(items):

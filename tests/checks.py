@@ -49,6 +49,21 @@ def caught(function, *values, **named):
     return None
 
 
+def classes_of(value):
+    """The class of a value, and of all that is in it if it is a list or a tuple."""
+    if isinstance(value, (list, tuple)):
+        return [type(value), *map(classes_of, value)]
+    return type(value)
+
+
+def lists_of(value):
+    """The lists that a value has within it, this one too, each as often as it stands there."""
+    found = [value] if isinstance(value, list) else []
+    for item in value if isinstance(value, (list, tuple)) else []:
+        found.extend(lists_of(item))
+    return found
+
+
 class Checks:
     """Checks for test cases, by inheritance."""
 
@@ -66,8 +81,15 @@ class Checks:
         self.assertEqual(error.count, count)
 
     def check_same(self, wanted, found):
-        """The value is equal, and of the same class: True is no integer and a list no tuple."""
+        """The value is equal, and of the same classes all through: True is no integer and a list no tuple."""
         self.assertEqual(found, wanted)
-        self.assertIs(type(found), type(wanted))
-        if isinstance(wanted, tuple):
-            self.assertEqual([type(item) for item in found], [type(item) for item in wanted])
+        self.assertEqual(classes_of(found), classes_of(wanted))
+
+    def check_new_lists(self, function, *values):
+        """The lists of the result are new on each call, and none stands at two places; tells the first result."""
+        first, second = function(*values), function(*values)
+        self.assertEqual(first, second)
+        lists = lists_of(first) + lists_of(second)
+        self.assertEqual(len({id(one) for one in lists}), len(lists))
+        self.assertFalse({id(one) for one in lists} & {id(one) for value in values for one in lists_of(value)})
+        return first

@@ -6,8 +6,14 @@ import inspect
 import unittest
 
 from checks import Checks, caught
+from sparesum.arrays import (Array, all_blocks, blocks_on, head_block, head_code, heads_on, home_block, new_block,
+                             row_code)
 from sparesum.codes import Code, agreement, data_from, fits, is_word, mended, word
-from sparesum.errors import InvalidData, InvalidPoints
+from sparesum.disks import Disks
+from sparesum.errors import (InvalidChanges, InvalidContents, InvalidData, InvalidHeads, InvalidLeft, InvalidLot,
+                             InvalidNumber, InvalidPoints, InvalidRecords, InvalidView)
+from sparesum.heads import can_be_left, is_view, mending, told
+from sparesum.lots import head_word, is_lot, lot_at, lot_for, lot_number, lot_of
 from sparesum.numbers import evaluate, greatest_prime, inverse, is_prime, least_prime, through
 
 LISTED = {
@@ -16,33 +22,122 @@ LISTED = {
     "codes": {"Code": ["prime", "length", "symbols"], "word": ["code", "data"], "is_word": ["code", "value"],
               "data_from": ["code", "points"], "fits": ["code", "points"], "agreement": ["one", "other"],
               "mended": ["code", "points"]},
+    "arrays": {"Array": ["disks", "lost", "records", "changes", "contents"], "heads_on": ["array", "disk"],
+               "blocks_on": ["array", "disk"], "home_block": ["array", "disk", "record"], "head_block": ["array", "head"],
+               "new_block": ["array", "disk", "index"], "all_blocks": ["array"], "row_code": ["array"],
+               "head_code": ["array"]},
+    "lots": {"is_lot": ["array", "value"], "lot_at": ["array", "number"], "lot_number": ["array", "lot"],
+             "lot_for": ["array", "records"], "head_word": ["array", "lot"], "lot_of": ["array", "points"]},
+    "heads": {"is_view": ["array", "value"], "told": ["array", "view"], "can_be_left": ["array", "view", "lot"],
+              "mending": ["array", "view"]},
+    "disks": {"Disks": ["array"]},
 }
+
+METHODS = {
+    Code: {"__eq__": None},
+    Array: {"__eq__": None},
+    Disks: {"lost": [], "inside": [], "settled": [], "now": [], "pending": [], "write": ["disk", "block", "content"],
+            "sync": [], "lose": ["disk"], "replace": ["disk"], "cut": ["left"]},
+}
+
+# [8] promises these by position alone.
+BY_POSITION = {"replace"}
 
 
 def calls():
     """A call of each function that raises nothing, its arguments in the order of the interface, and its result."""
-    code = Code(5, 4, 2)
+    code, array = Code(5, 4, 2), Array(4, 1, 6, 3, 13)
     points = [(0, 1), (1, 4), (2, 2), (3, 1)]
+    view = [(0, 2), (1, 5), (2, 12), (3, 0)]
     return [
         (is_prime, [91], False), (least_prime, [8], 11), (greatest_prime, [8], 7), (inverse, [7, 3], 5),
         (evaluate, [7, (3, 1, 2), 2], 6), (through, [7, [(2, 6), (0, 3), (1, 6)]], (3, 1, 2)),
         (Code, [5, 4, 2], code), (word, [code, (1, 3)], (1, 4, 2, 0)), (is_word, [code, (1, 4, 2, 1)], False),
         (data_from, [code, points], (1, 3)), (fits, [code, points], False),
         (agreement, [(1, 4, 2, 0), (4, 4, 4, 4)], 1), (mended, [code, points], (1, 4, 2, 0)),
+        (Array, [4, 1, 6, 3, 13], array), (heads_on, [array, 1], [1]), (blocks_on, [array, 1], 10),
+        (home_block, [array, 1, 5], 5), (head_block, [array, 3], 6), (new_block, [array, 1, 2], 9),
+        (all_blocks, [array], 40), (row_code, [array], Code(13, 4, 3)), (head_code, [array], Code(11, 4, 2)),
+        (is_lot, [array, [1, 3, 5]], True), (is_lot, [array, [1, 5, 3]], False), (lot_at, [array, 14], [1, 3, 5]),
+        (lot_number, [array, [1, 3, 5]], 14), (lot_for, [array, [3]], [0, 1, 3]),
+        (head_word, [array, [1, 3, 5]], (2, 5, 8, 11)), (lot_of, [array, [(1, 5), (3, 11)]], [1, 3, 5]),
+        (is_view, [array, view], True), (told, [array, view], [1, 3, 5]), (can_be_left, [array, view, [1, 3, 5]], True),
+        (mending, [array, view], [(2, 8), (3, 11)]),
     ]
 
 
 def wrong_calls():
-    """Calls that raise an error, some of them with lists that could be changed."""
-    code = Code(5, 4, 2)
+    """Calls that raise an error or tell False, some of them with lists that could be changed."""
+    code, array = Code(5, 4, 2), Array(4, 1, 6, 3, 13)
     return [
         (is_prime, [["x", [7]]]), (least_prime, [[1, [2]]]), (greatest_prime, [{"a": [1]}]), (inverse, [[7], [1]]),
         (inverse, [7, [1]]), (evaluate, [7, [1, 2], 0]), (evaluate, [7, (1,), [0]]), (through, [7, [(1, 1), [2, 2]]]),
         (through, [7, [(3, 1), (1, 1), (3, 1)]]), (Code, [5, [4], [2]]), (word, [code, [1, 3]]),
         (is_word, [code, [1, 4, 2, 0]]), (data_from, [code, [(1, 1), (0, 2)]]), (data_from, [code, [(1, 1)]]),
         (fits, [code, [(1, 1), (0, 2)]]), (agreement, [[1, 2], [2, 1]]), (mended, [code, [(0, 1), (1, 4)]]),
-        (mended, [code, [(0, 1), (1, 2), (2, 2), (3, 0)]]),
+        (mended, [code, [(0, 1), (1, 2), (2, 2), (3, 0)]]), (Array, [4, [1], 6, [3], 13]), (Array, [3, 1, 4, 2, 3]),
+        (heads_on, [array, [1]]), (blocks_on, [array, 4]), (home_block, [array, 0, [1]]), (head_block, [array, [2, [1]]]),
+        (new_block, [array, 0, [1]]), (is_lot, [array, [3, 1, 2]]), (lot_at, [array, [1]]), (lot_number, [array, [5, 3, 1]]),
+        (lot_for, [array, [3, 1]]), (head_word, [array, [1, 2]]), (lot_of, [array, [(3, 1), (0, 1)]]),
+        (lot_of, [array, [(3, 1)]]), (is_view, [array, [(3, 1), (0, 1)]]), (told, [array, [(3, 1), (0, 1)]]),
+        (told, [array, [(3, 1)]]), (can_be_left, [array, [[3, 1]], [1, 3, 5]]), (can_be_left, [array, [(3, 1)], [1, 5, 3]]),
+        (mending, [array, [(0, 1), (1, 1), [2, 0]]]),
     ]
+
+
+def disks_with_writes():
+    disks = Disks(Array(3, 1, 2, 2, 5))
+    disks.lose(2)
+    disks.write(0, 1, 4)
+    disks.write(1, 0, 3)
+    return disks
+
+
+def method_calls():
+    """What makes an object, the name of a method, its arguments in order, and its result."""
+    return [
+        (disks_with_writes, "lost", [], [2]), (disks_with_writes, "inside", [], [0, 1]),
+        (disks_with_writes, "settled", [], [[0] * 5, [0] * 5, None]),
+        (disks_with_writes, "now", [], [[0, 4, 0, 0, 0], [3, 0, 0, 0, 0], None]),
+        (disks_with_writes, "pending", [], [(0, 1, 4), (1, 0, 3)]), (disks_with_writes, "write", [1, 4, 2], None),
+        (disks_with_writes, "sync", [], 2), (lambda: Disks(Array(3, 1, 2, 2, 5)), "lose", [0], None),
+        (disks_with_writes, "replace", [2], None), (disks_with_writes, "cut", [[(0, 1, 2), (1, 0, 0)]], None),
+    ]
+
+
+def wrong_method_calls():
+    """The same, of calls that raise an error."""
+    return [
+        (disks_with_writes, "write", [[1], 4, 2]), (disks_with_writes, "write", [2, [4], 2]),
+        (disks_with_writes, "write", [1, [4], 2]), (disks_with_writes, "write", [1, 4, [2]]),
+        (disks_with_writes, "lose", [[0]]), (disks_with_writes, "lose", [1]), (disks_with_writes, "replace", [[2]]),
+        (disks_with_writes, "replace", [1]), (disks_with_writes, "cut", [[(0, 1, 2), [1, 0, 0]]]),
+        (disks_with_writes, "cut", [[(0, 1, 2), (1, 1, 0)]]), (disks_with_writes, "cut", [{"a": [1]}]),
+    ]
+
+
+def state_of(thing):
+    """What an object tells by its methods that change nothing."""
+    told_by = {"Disks": ["lost", "inside", "settled", "now", "pending"]}[type(thing).__name__]
+    return [getattr(thing, name)() for name in told_by]
+
+
+def as_tuples(value):
+    if isinstance(value, (list, tuple)):
+        return tuple(as_tuples(item) for item in value)
+    return value
+
+
+def named(function, values):
+    return dict(zip(inspect.signature(function).parameters, values))
+
+
+def all_objects(value):
+    """The value and all that it has within."""
+    found = [value]
+    for item in value.values() if isinstance(value, dict) else value if isinstance(value, (list, tuple)) else []:
+        found.extend(all_objects(item))
+    return found
 
 
 class Interface(Checks, unittest.TestCase):
@@ -53,11 +148,22 @@ class Interface(Checks, unittest.TestCase):
                 thing = getattr(module, name)
                 self.assertEqual(thing.__module__, "sparesum." + file)
                 self.assertEqual(list(inspect.signature(thing).parameters), parameters)
-        self.assertIn("__eq__", vars(Code))
+
+    def test_all_methods_stand_in_the_class_itself(self):
+        for owner, methods in METHODS.items():
+            self.assertEqual(owner.__bases__, (object,))
+            for name, parameters in methods.items():
+                self.assertIn(name, vars(owner))
+                if parameters is not None:
+                    self.assertEqual(list(inspect.signature(vars(owner)[name]).parameters), ["self", *parameters])
 
     def test_each_listed_name_is_called_here(self):
         called = {function.__name__ for function, _, _ in calls()}
+        called |= {type(make()).__name__ for make, _, _, _ in method_calls()}
         self.assertEqual(called, {name for names in LISTED.values() for name in names})
+        called = {(type(make()), name) for make, name, _, _ in method_calls()}
+        listed = {(owner, name) for owner, methods in METHODS.items() for name in methods if name != "__eq__"}
+        self.assertEqual(called, listed)
 
     def test_by_position_and_by_name(self):
         for function, values, wanted in calls():
@@ -67,40 +173,69 @@ class Interface(Checks, unittest.TestCase):
             self.check_same(wanted, function(**dict(reversed(list(zip(names, values))))))
             self.check_same(wanted, function(*values[:1], **dict(list(zip(names, values))[1:])))
 
+    def test_methods_by_position_and_by_name(self):
+        for make, name, values, wanted in method_calls():
+            one, other = make(), make()
+            self.check_same(wanted, getattr(one, name)(*values))
+            if name not in BY_POSITION:
+                self.check_same(wanted, getattr(other, name)(**named(getattr(other, name), values)))
+                self.assertEqual(state_of(one), state_of(other))
+
     def test_errors_by_position_and_by_name(self):
         for function, values in wrong_calls():
-            names = list(inspect.signature(function).parameters)
-            one, other = caught(function, *values), caught(function, **dict(zip(names, values)))
+            one, other = caught(function, *values), caught(function, **named(function, values))
             self.assertIs(type(one), type(other))
             if one is not None:
                 self.assertEqual(vars(one), vars(other))
 
+    def test_errors_of_methods(self):
+        for make, name, values in wrong_method_calls():
+            one, other = make(), make()
+            before = state_of(one)
+            first = caught(getattr(one, name), *values)
+            self.assertIsNotNone(first)
+            self.assertEqual(state_of(one), before)
+            if name not in BY_POSITION:
+                second = caught(getattr(other, name), **named(getattr(other, name), values))
+                self.assertEqual([type(first), vars(first)], [type(second), vars(second)])
+
     def test_tuples_in_the_place_of_lists(self):
         for function, values, wanted in calls():
-            whole = [tuple(value) if isinstance(value, list) else value for value in values]
-            self.check_same(wanted, function(*whole))
+            self.check_same(wanted, function(*[as_tuples(value) for value in values]))
+            self.check_same(wanted, function(*[tuple(value) if isinstance(value, list) else value for value in values]))
+        for make, name, values, wanted in method_calls():
+            one, other = make(), make()
+            getattr(one, name)(*values)
+            self.check_same(wanted, getattr(other, name)(*[as_tuples(value) for value in values]))
+            self.assertEqual(state_of(one), state_of(other))
 
     def test_a_list_in_the_place_of_a_tuple(self):
-        code = Code(5, 4, 2)
+        code, array, disks = Code(5, 4, 2), Array(4, 1, 6, 3, 13), disks_with_writes()
         for function, error_class, before, wrong, behind in [
                 (evaluate, InvalidData, [7], [3, 1, 2], [2]), (word, InvalidData, [code], [1, 3], []),
                 (agreement, InvalidData, [], [1], [(1,)]), (agreement, InvalidData, [(1,)], [1], []),
                 (through, InvalidPoints, [7], [[2, 6]], []), (through, InvalidPoints, [7], ((0, 1), [2, 6]), []),
                 (data_from, InvalidPoints, [code], [(0, 1), [1, 4]], []),
                 (fits, InvalidPoints, [code], [[0, 1], (1, 4)], []),
-                (mended, InvalidPoints, [code], [(0, 1), (1, 4), [2, 2], (3, 0)], [])]:
+                (mended, InvalidPoints, [code], [(0, 1), (1, 4), [2, 2], (3, 0)], []),
+                (lot_of, InvalidHeads, [array], [(0, 1), [1, 4]], []), (told, InvalidView, [array], ([0, 1], (1, 4), (2, 0)), []),
+                (mending, InvalidView, [array], [(0, 1), (1, 4), [2, 2]], []),
+                (can_be_left, InvalidView, [array], [[0, 1]], [[1, 3, 5]]), (disks.cut, InvalidLeft, [], [[0, 1, 2]], [])]:
             self.check_given(error_class, wrong, function, *before, wrong, *behind)
         self.assertIs(is_word(code, [1, 4, 2, 0]), False)
+        self.assertIs(is_view(array, [[0, 1]]), False)
 
     def test_arguments_stay_as_they_were(self):
         for function, values in [(function, values) for function, values, _ in calls()] + wrong_calls():
-            kept = copy.deepcopy(values)
-            inner = [list(value) if isinstance(value, list) else None for value in values]
-            caught(function, *values)
-            self.assertEqual(values, kept)
-            for value, items in zip(values, inner):
-                if items is not None:
-                    self.assertTrue(all(one is other for one, other in zip(value, items)))
+            self.check_stay(function, values)
+        for make, name, values in [row[:3] for row in method_calls()] + wrong_method_calls():
+            self.check_stay(getattr(make(), name), values)
+
+    def check_stay(self, function, values):
+        kept, objects = copy.deepcopy(values), all_objects(values)
+        caught(function, *values)
+        self.assertEqual(values, kept)
+        self.assertEqual(list(map(id, all_objects(values))), list(map(id, objects)))
 
     def test_equal_results_on_each_call(self):
         rows = calls()
@@ -113,12 +248,39 @@ class Interface(Checks, unittest.TestCase):
             if one is not None:
                 self.assertEqual(vars(one), vars(other))
 
-    def test_codes_are_not_changed(self):
-        code = Code(5, 4, 2)
+    def test_returned_lists_are_new_on_each_call(self):
+        for function, values, _ in calls():
+            self.check_new_lists(function, *values)
+
+    def test_the_very_object_is_kept_in_errors(self):
+        array = Array(4, 1, 6, 3, 13)
+        for error_class, wrong, function, before, behind in [
+                (InvalidRecords, [6], Array, [4, 1], [3, 13]), (InvalidChanges, [3], Array, [4, 1, 6], [13]),
+                (InvalidContents, [13], Array, [4, 1, 6, 3], []), (InvalidChanges, [0], new_block, [array, 0], []),
+                (InvalidNumber, [0], lot_at, [array], []), (InvalidLot, [1, 2], lot_number, [array], []),
+                (InvalidRecords, [2, 1], lot_for, [array], []), (InvalidLot, [3, 2, 1], head_word, [array], []),
+                (InvalidHeads, [(1, 0)], lot_of, [array], []), (InvalidView, [(4, 0)], told, [array], []),
+                (InvalidView, [(4, 0)], mending, [array], []), (InvalidView, [(4, 0)], can_be_left, [array], [[0, 1, 2]]),
+                (InvalidLot, [0, 1], can_be_left, [array, []], []), (InvalidLeft, [(0, 0)], Disks(array).cut, [], [])]:
+            error = caught(function, *before, wrong, *behind)
+            self.assertIs(type(error), error_class)
+            wrong.append([9])
+            self.assertIs(error.given, wrong)
+            self.assertEqual(error.given[-1], [9])
+
+    def test_codes_and_arrays_are_not_changed(self):
+        code, array = Code(5, 4, 2), Array(4, 1, 6, 3, 13)
+        kept = [dict(vars(code)), dict(vars(array))]
+        self.assertEqual(kept[0], {"prime": 5, "length": 4, "symbols": 2})
         for function, values in [(function, values) for function, values, _ in calls()] + wrong_calls():
-            if values and isinstance(values[0], Code):
-                caught(function, code, *values[1:])
-                self.assertEqual(vars(code), {"prime": 5, "length": 4, "symbols": 2})
+            if values and isinstance(values[0], (Code, Array)):
+                caught(function, code if isinstance(values[0], Code) else array, *values[1:])
+                self.assertEqual([vars(code), vars(array)], kept)
+        for make, name, values in [row[:3] for row in method_calls()] + wrong_method_calls():
+            thing = make()
+            kept = dict(vars(thing.array))
+            caught(getattr(thing, name), *values)
+            self.assertEqual(vars(thing.array), kept)
 
 
 if __name__ == "__main__":
