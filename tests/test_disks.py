@@ -5,7 +5,7 @@ import random
 import unittest
 
 from checks import Checks, Plain, Touchy, caught, no_integers, no_lists
-from reckoning import Own, subsets
+from reckoning import Own, OwnDisks, subsets
 from sparesum.arrays import Array
 from sparesum.disks import Disks
 from sparesum.errors import (InvalidBlock, InvalidContent, InvalidDisk, InvalidLeft, IsLost, NotLeft, NotLost,
@@ -13,46 +13,6 @@ from sparesum.errors import (InvalidBlock, InvalidContent, InvalidDisk, InvalidL
 
 SOME = [(1, 0, 1, 1, 2), (2, 1, 1, 1, 5), (3, 1, 2, 2, 5), (3, 2, 2, 1, 3), (4, 1, 3, 2, 7), (4, 2, 6, 3, 13), (5, 4, 2, 1, 5),
         (12, 6, 5, 1, 13), (12, 11, 24, 12, 997)]
-
-
-class Model:
-    """Disks by the words of [71] to [74]: a dict from places to contents, and the places of disks that are there."""
-
-    def __init__(self, own):
-        self.own = own
-        self.there = {disk: {block: 0 for block in range(len(own.layout(disk)))} for disk in range(own.n)}
-        self.writes = []
-
-    def rows(self, writes):
-        rows = [None] * self.own.n
-        for disk, blocks in self.there.items():
-            having = {**blocks, **{block: content for other, block, content in writes if other == disk}}
-            rows[disk] = [having.get(block) for block in range(len(self.own.layout(disk)))]
-        return rows
-
-    def inside(self):
-        return [disk for disk in range(self.own.n)
-                if disk in self.there and len(self.there[disk]) == len(self.own.layout(disk))]
-
-    def told(self):
-        lost = [disk for disk in range(self.own.n) if disk not in self.there]
-        return [lost, self.inside(), self.rows([]), self.rows(self.writes), self.writes]
-
-    def settle(self, writes):
-        for disk, block, content in writes:
-            if content is not None:
-                self.there[disk][block] = content
-        self.writes = []
-
-    def lose(self, disk):
-        del self.there[disk]
-        self.writes = [write for write in self.writes if write[0] != disk]
-
-    def replace(self, disk):
-        self.there[disk] = {}
-
-    def may_lose(self, disk):
-        return len([other for other in self.inside() if other != disk]) >= self.own.d
 
 
 def state(disks):
@@ -424,7 +384,7 @@ class Runs(Base):
                 self.check_run(numbers, random.Random(seed))
 
     def check_run(self, numbers, chance):
-        disks, model = Disks(Array(*numbers)), Model(Own(*numbers))
+        disks, model = Disks(Array(*numbers)), OwnDisks(Own(*numbers))
         for _ in range(120):
             self.do(disks, model, chance, chance.choice(["write"] * 8 + ["sync", "lose", "lose", "replace", "cut"]))
             self.assertEqual(state(disks), model.told())
@@ -435,13 +395,13 @@ class Runs(Base):
             self.assertEqual(disks.sync(), len(model.writes))
             model.settle(model.writes)
         elif act == "cut":
-            left = self.left(model, chance)
+            left = model.some_left(chance)
             disks.cut(left)
             model.settle(left)
         elif act == "replace":
             self.do_or_refuse(disks.replace, model.replace, disk, disk not in model.there)
         elif act == "lose":
-            self.do_or_refuse(disks.lose, model.lose, disk, disk in model.there and model.may_lose(disk))
+            self.do_or_refuse(disks.lose, model.lose, disk, model.may_lose(disk))
         elif disk in model.there:
             write = (disk, chance.randrange(len(model.own.layout(disk))), chance.randrange(model.own.q))
             disks.write(*write)
@@ -452,16 +412,6 @@ class Runs(Base):
         self.assertEqual(error is None, is_right)
         if is_right:
             same(disk)
-
-    def left(self, model, chance):
-        left = []
-        for disk, block in sorted({write[:2] for write in model.writes}):
-            settled = model.there[disk].get(block)
-            way = chance.choice(["left out", "settled", "any"])
-            if way != "left out":
-                left.append((disk, block, settled if way == "settled" else chance.randrange(model.own.q)))
-        chance.shuffle(left)
-        return left
 
 
 if __name__ == "__main__":

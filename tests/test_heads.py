@@ -23,29 +23,6 @@ def all_views(own):
         yield [(head, content) for head, content in enumerate(contents) if content is not None]
 
 
-def told_number(own, view):
-    """The number of the lot that a view tells by [62], or None."""
-    if 0 in [content for _, content in view[:own.j + 1]]:
-        return None
-    return own.number_of_points(view[:own.j])
-
-
-def can_be(own, view, number):
-    """[63] by its words: whether there is such a head t."""
-    word = own.word_of_number(number)
-    return any(all(content == word[head] for head, content in view if head < t)
-               and all(content == 0 for head, content in view if head > t) for t in range(own.H))
-
-
-def writes_for(own, view):
-    """The writes of [64]."""
-    number = told_number(own, view)
-    if number is None:
-        return [(head, 0) for head, content in view[::-1] if content != 0]
-    word = own.word_of_number(number)
-    return [(head, word[head]) for head, content in view if content != word[head]]
-
-
 def with_writes(view, writes):
     after = dict(view)
     after.update(writes)
@@ -145,9 +122,9 @@ class Telling(Checks, unittest.TestCase):
                     self.check_count(TooFew, len(view), told, array, view)
                     self.check_count(TooFew, len(view), mending, array, tuple(view))
                 else:
-                    number = told_number(own, view)
+                    number = own.told_number(view)
                     self.check_same(None if number is None else lots[number], told(array, view))
-                    self.check_same(writes_for(own, view), mending(array, view))
+                    self.check_same(own.mending(view), mending(array, view))
 
     def test_too_few_with_a_wrong_view(self):
         array = Array(4, 1, 6, 3, 13)
@@ -192,7 +169,7 @@ class Telling(Checks, unittest.TestCase):
                 self.assertIs(can_be_left(array, whole, lot), True)
                 torn = whole[:own.j] + [(own.j, own.q - 1)] + [(head, 0) for head in range(own.j + 1, own.H)]
                 self.assertEqual([told(array, torn), can_be_left(array, torn, lot)], [lot, True])
-                self.check_same(writes_for(own, torn), mending(array, torn))
+                self.check_same(own.mending(torn), mending(array, torn))
                 self.assertEqual(with_writes(torn, mending(array, torn)), whole)
 
 
@@ -203,8 +180,8 @@ class LeftViews(Checks, unittest.TestCase):
             lots = own.all_lots()
             for view in all_views(own):
                 for number in some_numbers(own):
-                    self.assertIs(can_be_left(array, view, lots[number]), can_be(own, view, number))
-                    self.assertIs(can_be_left(array, tuple(view), tuple(lots[number])), can_be(own, view, number))
+                    self.assertIs(can_be_left(array, view, lots[number]), own.can_be_left(view, number))
+                    self.assertIs(can_be_left(array, tuple(view), tuple(lots[number])), own.can_be_left(view, number))
 
     def test_views_that_a_change_leaves(self):
         for numbers in SMALL:
@@ -222,7 +199,7 @@ class LeftViews(Checks, unittest.TestCase):
             return
         found, writes = told(array, view), mending(array, view)
         self.assertIn(found, (lot, None))
-        self.check_same(writes_for(own, view), writes)
+        self.check_same(own.mending(view), writes)
         for count, (head, _) in enumerate(writes):
             for content in range(own.q):
                 cut = with_writes(view, [*writes[:count], (head, content)])
@@ -245,7 +222,7 @@ class LeftViews(Checks, unittest.TestCase):
             for number, other in itertools.product(some_numbers(own), repeat=2):
                 found = {}
                 for view in left_views(own, number):
-                    wanted = can_be(own, view, other)
+                    wanted = own.can_be_left(view, other)
                     self.assertIs(can_be_left(array, view, lots[other]), wanted)
                     found[wanted] = True
                     if wanted and number != other and len(view) > own.j:

@@ -8,13 +8,17 @@ import unittest
 from checks import Checks, caught
 from sparesum.arrays import (Array, all_blocks, blocks_on, head_block, head_code, heads_on, home_block, new_block,
                              row_code)
+from sparesum.changes import change_groups, finish_groups, granted, is_wish
 from sparesum.codes import Code, agreement, data_from, fits, is_word, mended, word
 from sparesum.disks import Disks
-from sparesum.errors import (InvalidChanges, InvalidContents, InvalidData, InvalidHeads, InvalidLeft, InvalidLot,
-                             InvalidNumber, InvalidPoints, InvalidRecords, InvalidView)
+from sparesum.errors import (InvalidBlock, InvalidBlocks, InvalidChanges, InvalidContents, InvalidData, InvalidHeads,
+                             InvalidLeft, InvalidLot, InvalidNumber, InvalidPoints, InvalidRecords, InvalidTold,
+                             InvalidView, InvalidWish)
 from sparesum.heads import can_be_left, is_view, mending, told
 from sparesum.lots import head_word, is_lot, lot_at, lot_for, lot_number, lot_of
+from sparesum.meaning import inside, is_blocks, read, row_of, row_word, view_of
 from sparesum.numbers import evaluate, greatest_prime, inverse, is_prime, least_prime, through
+from sparesum.stores import Store
 
 LISTED = {
     "numbers": {"is_prime": ["value"], "least_prime": ["number"], "greatest_prime": ["number"],
@@ -31,6 +35,11 @@ LISTED = {
     "heads": {"is_view": ["array", "value"], "told": ["array", "view"], "can_be_left": ["array", "view", "lot"],
               "mending": ["array", "view"]},
     "disks": {"Disks": ["array"]},
+    "meaning": {"is_blocks": ["array", "value"], "inside": ["array", "blocks"], "view_of": ["array", "blocks"],
+                "row_of": ["array", "blocks", "block"], "read": ["array", "blocks"], "row_word": ["array", "contents"]},
+    "changes": {"is_wish": ["array", "value"], "granted": ["array", "told", "wish"],
+                "change_groups": ["array", "blocks", "wish"], "finish_groups": ["array", "blocks"]},
+    "stores": {"Store": ["disks"]},
 }
 
 METHODS = {
@@ -38,6 +47,8 @@ METHODS = {
     Array: {"__eq__": None},
     Disks: {"lost": [], "inside": [], "settled": [], "now": [], "pending": [], "write": ["disk", "block", "content"],
             "sync": [], "lose": ["disk"], "replace": ["disk"], "cut": ["left"]},
+    Store: {"work": [], "answered": [], "step": [], "finish": [], "records": [], "begin": ["wish"], "cut": ["left"],
+            "lose": ["disk"], "replace": ["disk"], "take_in": ["disk"]},
 }
 
 # [8] promises these by position alone.
@@ -49,6 +60,7 @@ def calls():
     code, array = Code(5, 4, 2), Array(4, 1, 6, 3, 13)
     points = [(0, 1), (1, 4), (2, 2), (3, 1)]
     view = [(0, 2), (1, 5), (2, 12), (3, 0)]
+    three, two, blocks = Array(3, 1, 2, 1, 5), Array(2, 1, 2, 1, 5), [[1, 2, 2, 0], None, [2, 2, 2, 4]]
     return [
         (is_prime, [91], False), (least_prime, [8], 11), (greatest_prime, [8], 7), (inverse, [7, 3], 5),
         (evaluate, [7, (3, 1, 2), 2], 6), (through, [7, [(2, 6), (0, 3), (1, 6)]], (3, 1, 2)),
@@ -62,13 +74,21 @@ def calls():
         (lot_number, [array, [1, 3, 5]], 14), (lot_for, [array, [3]], [0, 1, 3]),
         (head_word, [array, [1, 3, 5]], (2, 5, 8, 11)), (lot_of, [array, [(1, 5), (3, 11)]], [1, 3, 5]),
         (is_view, [array, view], True), (told, [array, view], [1, 3, 5]), (can_be_left, [array, view, [1, 3, 5]], True),
-        (mending, [array, view], [(2, 8), (3, 11)]),
+        (mending, [array, view], [(2, 8), (3, 11)]), (is_blocks, [three, blocks], True), (inside, [three, blocks], [0, 2]),
+        (view_of, [three, blocks], [(0, 2), (2, 2)]), (row_of, [three, blocks, ("home", 0)], [(0, 1), (2, 2)]),
+        (read, [three, blocks], [(1, 3), (0, 2)]), (row_word, [three, (1, 3)], (1, 4, 2)),
+        (is_wish, [three, [(1, (4, 0))]], True),
+        (granted, [three, [(1, 2), (3, 4)], [(1, (0, 0))]], [(1, 2), (0, 0)]),
+        (change_groups, [two, [[3, 1, 0, 0, 4], None], [(1, (2,))]],
+         [[(0, 4, 2)], [(0, 2, 2)], [(0, 3, 2)], [(0, 1, 2)], [(0, 3, 0)], [(0, 2, 0)]]),
+        (finish_groups, [two, [[3, 1, 2, 1, 2], None]], [[(0, 3, 2)], [(0, 1, 2)], [(0, 3, 0)], [(0, 2, 0)]]),
     ]
 
 
 def wrong_calls():
     """Calls that raise an error or tell False, some of them with lists that could be changed."""
-    code, array = Code(5, 4, 2), Array(4, 1, 6, 3, 13)
+    code, array, three = Code(5, 4, 2), Array(4, 1, 6, 3, 13), Array(3, 1, 2, 1, 5)
+    wrong, blocks = [[1, 2, 2, 0], None, [2, 2, 2, 5]], [[1, 2, 2, 0], None, [2, 2, 2, 4]]
     return [
         (is_prime, [["x", [7]]]), (least_prime, [[1, [2]]]), (greatest_prime, [{"a": [1]}]), (inverse, [[7], [1]]),
         (inverse, [7, [1]]), (evaluate, [7, [1, 2], 0]), (evaluate, [7, (1,), [0]]), (through, [7, [(1, 1), [2, 2]]]),
@@ -81,7 +101,13 @@ def wrong_calls():
         (lot_for, [array, [3, 1]]), (head_word, [array, [1, 2]]), (lot_of, [array, [(3, 1), (0, 1)]]),
         (lot_of, [array, [(3, 1)]]), (is_view, [array, [(3, 1), (0, 1)]]), (told, [array, [(3, 1), (0, 1)]]),
         (told, [array, [(3, 1)]]), (can_be_left, [array, [[3, 1]], [1, 3, 5]]), (can_be_left, [array, [(3, 1)], [1, 5, 3]]),
-        (mending, [array, [(0, 1), (1, 1), [2, 0]]]),
+        (mending, [array, [(0, 1), (1, 1), [2, 0]]]), (is_blocks, [three, wrong]), (inside, [three, wrong]),
+        (view_of, [three, wrong]), (row_of, [three, wrong, ("home", 0)]), (row_of, [three, blocks, ["home", [0]]]),
+        (read, [three, wrong]), (read, [three, [[1, 2, 2, 0], [0, None, 0, 0], None]]), (row_word, [three, [1, 2]]),
+        (is_wish, [three, [(2, (4, 0))]]), (granted, [three, [[1, 2], (3, 4)], []]),
+        (granted, [three, [(1, 2), (3, 4)], [[1, (0, 0)]]]), (change_groups, [three, wrong, []]),
+        (change_groups, [three, blocks, [[1, (0, 0)]]]), (change_groups, [three, blocks, [(1, (0, 0))]]),
+        (finish_groups, [three, wrong]), (finish_groups, [three, [None, None, [2, 2, 2, 4]]]),
     ]
 
 
@@ -93,6 +119,33 @@ def disks_with_writes():
     return disks
 
 
+def new_store():
+    return Store(Disks(Array(3, 1, 2, 2, 5)))
+
+
+def open_store():
+    store = new_store()
+    store.finish()
+    return store
+
+
+def busy_store():
+    """A store with an answered wish, and another one under way, whose first write is pending."""
+    store = open_store()
+    store.begin([(0, (1, 2))])
+    store.finish()
+    store.begin([(1, (3, 4))])
+    store.step()
+    return store
+
+
+def lacking_store():
+    """An open store with a lost disk."""
+    store = open_store()
+    store.lose(2)
+    return store
+
+
 def method_calls():
     """What makes an object, the name of a method, its arguments in order, and its result."""
     return [
@@ -102,6 +155,11 @@ def method_calls():
         (disks_with_writes, "pending", [], [(0, 1, 4), (1, 0, 3)]), (disks_with_writes, "write", [1, 4, 2], None),
         (disks_with_writes, "sync", [], 2), (lambda: Disks(Array(3, 1, 2, 2, 5)), "lose", [0], None),
         (disks_with_writes, "replace", [2], None), (disks_with_writes, "cut", [[(0, 1, 2), (1, 0, 0)]], None),
+        (new_store, "work", [], ("opening",)), (busy_store, "work", [], ("wish", [(1, (3, 4))])),
+        (busy_store, "answered", [], [[(0, (1, 2))]]), (busy_store, "step", [], ("write", 1, 3, 3)),
+        (busy_store, "finish", [], 22), (busy_store, "records", [], [(1, 2), (0, 0)]),
+        (open_store, "begin", [[(1, (3, 4))]], None), (busy_store, "cut", [[(0, 3, 2)]], None),
+        (busy_store, "lose", [0], None), (lacking_store, "replace", [2], None), (open_store, "take_in", [1], None),
     ]
 
 
@@ -113,13 +171,20 @@ def wrong_method_calls():
         (disks_with_writes, "lose", [[0]]), (disks_with_writes, "lose", [1]), (disks_with_writes, "replace", [[2]]),
         (disks_with_writes, "replace", [1]), (disks_with_writes, "cut", [[(0, 1, 2), [1, 0, 0]]]),
         (disks_with_writes, "cut", [[(0, 1, 2), (1, 1, 0)]]), (disks_with_writes, "cut", [{"a": [1]}]),
+        (new_store, "records", []), (open_store, "step", []), (open_store, "finish", []),
+        (open_store, "begin", [[[1, (3, 4)]]]), (busy_store, "begin", [[(1, (3, 4))]]), (new_store, "begin", [[]]),
+        (busy_store, "cut", [[[0, 3, 2]]]), (busy_store, "cut", [[(0, 3, 2), (1, 3, 2)]]), (busy_store, "lose", [[0]]),
+        (lacking_store, "lose", [0]), (lacking_store, "lose", [2]), (lacking_store, "replace", [[2]]),
+        (lacking_store, "replace", [1]), (open_store, "take_in", [[1]]), (lacking_store, "take_in", [2]),
+        (busy_store, "take_in", [1]), (new_store, "take_in", [1]),
     ]
 
 
 def state_of(thing):
     """What an object tells by its methods that change nothing."""
-    told_by = {"Disks": ["lost", "inside", "settled", "now", "pending"]}[type(thing).__name__]
-    return [getattr(thing, name)() for name in told_by]
+    if isinstance(thing, Store):
+        return [thing.work(), thing.answered(), state_of(thing.disks)]
+    return [thing.lost(), thing.inside(), thing.settled(), thing.now(), thing.pending()]
 
 
 def as_tuples(value):
@@ -211,6 +276,7 @@ class Interface(Checks, unittest.TestCase):
 
     def test_a_list_in_the_place_of_a_tuple(self):
         code, array, disks = Code(5, 4, 2), Array(4, 1, 6, 3, 13), disks_with_writes()
+        three = Array(3, 1, 2, 1, 5)
         for function, error_class, before, wrong, behind in [
                 (evaluate, InvalidData, [7], [3, 1, 2], [2]), (word, InvalidData, [code], [1, 3], []),
                 (agreement, InvalidData, [], [1], [(1,)]), (agreement, InvalidData, [(1,)], [1], []),
@@ -220,10 +286,17 @@ class Interface(Checks, unittest.TestCase):
                 (mended, InvalidPoints, [code], [(0, 1), (1, 4), [2, 2], (3, 0)], []),
                 (lot_of, InvalidHeads, [array], [(0, 1), [1, 4]], []), (told, InvalidView, [array], ([0, 1], (1, 4), (2, 0)), []),
                 (mending, InvalidView, [array], [(0, 1), (1, 4), [2, 2]], []),
-                (can_be_left, InvalidView, [array], [[0, 1]], [[1, 3, 5]]), (disks.cut, InvalidLeft, [], [[0, 1, 2]], [])]:
+                (can_be_left, InvalidView, [array], [[0, 1]], [[1, 3, 5]]), (disks.cut, InvalidLeft, [], [[0, 1, 2]], []),
+                (row_word, InvalidTold, [three], [1, 3], []), (granted, InvalidTold, [three], [[1, 3], (0, 0)], [[]]),
+                (granted, InvalidWish, [three, [(1, 3), (0, 0)]], [[0, (0, 0)]], []),
+                (granted, InvalidWish, [three, [(1, 3), (0, 0)]], [(0, [0, 0])], []),
+                (change_groups, InvalidWish, [three, [[0] * 4, [0] * 4, [0] * 4]], [(0, [0, 0])], []),
+                (row_of, InvalidBlock, [three, [None] * 3], ["home", 0], []),
+                (open_store().begin, InvalidWish, [], [(0, [0, 0])], []), (new_store().cut, InvalidLeft, [], [[0, 0, 0]], [])]:
             self.check_given(error_class, wrong, function, *before, wrong, *behind)
         self.assertIs(is_word(code, [1, 4, 2, 0]), False)
         self.assertIs(is_view(array, [[0, 1]]), False)
+        self.assertIs(is_wish(three, [[0, (0, 0)]]), False)
 
     def test_arguments_stay_as_they_were(self):
         for function, values in [(function, values) for function, values, _ in calls()] + wrong_calls():
@@ -261,7 +334,14 @@ class Interface(Checks, unittest.TestCase):
                 (InvalidRecords, [2, 1], lot_for, [array], []), (InvalidLot, [3, 2, 1], head_word, [array], []),
                 (InvalidHeads, [(1, 0)], lot_of, [array], []), (InvalidView, [(4, 0)], told, [array], []),
                 (InvalidView, [(4, 0)], mending, [array], []), (InvalidView, [(4, 0)], can_be_left, [array], [[0, 1, 2]]),
-                (InvalidLot, [0, 1], can_be_left, [array, []], []), (InvalidLeft, [(0, 0)], Disks(array).cut, [], [])]:
+                (InvalidLot, [0, 1], can_be_left, [array, []], []), (InvalidLeft, [(0, 0)], Disks(array).cut, [], []),
+                (InvalidBlocks, [None], inside, [array], []), (InvalidBlocks, [None], view_of, [array], []),
+                (InvalidBlocks, [None], row_of, [array], [("home", 0)]), (InvalidBlocks, [None], read, [array], []),
+                (InvalidBlock, ["home"], row_of, [array, [None] * 4], []), (InvalidTold, [0, 0, 0], row_word, [array], []),
+                (InvalidTold, [()], granted, [array], [[]]), (InvalidWish, [()], granted, [array, [(0, 0, 0)] * 6], []),
+                (InvalidBlocks, [None], change_groups, [array], [[]]), (InvalidWish, [()], change_groups, [array, [None] * 4], []),
+                (InvalidBlocks, [None], finish_groups, [array], []), (InvalidWish, [()], open_store().begin, [], []),
+                (InvalidLeft, [()], open_store().cut, [], [])]:
             error = caught(function, *before, wrong, *behind)
             self.assertIs(type(error), error_class)
             wrong.append([9])
@@ -278,9 +358,10 @@ class Interface(Checks, unittest.TestCase):
                 self.assertEqual([vars(code), vars(array)], kept)
         for make, name, values in [row[:3] for row in method_calls()] + wrong_method_calls():
             thing = make()
-            kept = dict(vars(thing.array))
+            array = thing.disks.array if isinstance(thing, Store) else thing.array
+            kept = dict(vars(array))
             caught(getattr(thing, name), *values)
-            self.assertEqual(vars(thing.array), kept)
+            self.assertEqual(vars(array), kept)
 
 
 if __name__ == "__main__":
