@@ -16,14 +16,8 @@ class Array:
     """`disks` disks, of which `lost` may be lost, keep `records` records, of which `changes` change at once."""
 
     def __init__(self, disks, lost, records, changes, contents):
-        if not is_between(disks, 1, MOST_DISKS):
-            raise InvalidDisks(disks)
-        if not is_between(lost, 0, disks - 1):
-            raise InvalidLost(lost)
-        if not is_between(records, 1, MOST_RECORDS):
-            raise InvalidRecords(records)
-        if not is_between(changes, 1, records):
-            raise InvalidChanges(changes)
+        ask_disks(disks, lost)
+        ask_records(records, changes)
         if not is_prime(contents) or contents < disks:
             raise InvalidContents(contents)
         self.disks = disks
@@ -35,7 +29,7 @@ class Array:
         self.lots = comb(records, changes)
         self.prime = _head_prime(contents, self.lots)
         self.symbols = _head_symbols(self.prime, self.lots)
-        self.heads = _head_count(self.need, lost, self.symbols)
+        self.heads = spread(self.need, lost, self.symbols + 1)
         if self.prime is not None and self.prime < self.heads:
             raise NoHeads(self.lots)
 
@@ -90,6 +84,28 @@ def head_code(array):
     return Code(array.prime, array.heads, array.symbols)
 
 
+def ask_disks(disks, lost):
+    """Raises what Array raises for these two numbers."""
+    if not is_between(disks, 1, MOST_DISKS):
+        raise InvalidDisks(disks)
+    if not is_between(lost, 0, disks - 1):
+        raise InvalidLost(lost)
+
+
+def ask_records(records, changes):
+    """Raises what Array raises for these two numbers."""
+    if not is_between(records, 1, MOST_RECORDS):
+        raise InvalidRecords(records)
+    if not is_between(changes, 1, records):
+        raise InvalidChanges(changes)
+
+
+def spread(need, lost, count):
+    """How many heads there have to be so that any `need` of the disks have `count` of them together."""
+    # The disks that are lost may be those with the most heads: each has the quotient, rounded up.
+    return count + lost * ((count + need - 1) // need)
+
+
 def is_disk(array, value):
     return is_between(value, 0, array.disks - 1)
 
@@ -122,8 +138,3 @@ def _head_symbols(prime, lots):
         symbols += 1
         words *= prime
     return symbols
-
-
-def _head_count(need, lost, symbols):
-    # The disks that are lost may be those with the most heads: each has the quotient, rounded up.
-    return symbols + 1 + lost * ((symbols + need) // need)

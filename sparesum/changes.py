@@ -19,10 +19,7 @@ def granted(array, told, wish):
         raise InvalidTold(told)
     if not is_wish(array, wish):
         raise InvalidWish(wish)
-    behind = list(told)
-    for record, contents in wish:
-        behind[record] = contents
-    return behind
+    return with_wish(told, wish)
 
 
 def change_groups(array, blocks, wish):
@@ -30,7 +27,7 @@ def change_groups(array, blocks, wish):
         raise InvalidBlocks(blocks)
     if not is_wish(array, wish):
         raise InvalidWish(wish)
-    behind = granted(array, read(array, blocks), wish)
+    behind = with_wish(read(array, blocks), wish)
     view = view_of(array, blocks)
     if [head for head, content in view if content != 0]:
         raise NotOpen()
@@ -62,6 +59,14 @@ def taking_groups(array, blocks, disk):
     # The new blocks come last: the disk is in as soon as they are there, and nobody reads them.
     news = [(disk, new_block(array, disk, index), 0) for index in range(array.changes)]
     return [[*_rows_group(array, [disk], homes), *heads], news]
+
+
+def with_wish(records, wish):
+    """What granted tells, of records and a wish that have been judged."""
+    behind = list(records)
+    for record, contents in wish:
+        behind[record] = contents
+    return behind
 
 
 def _is_item(array, value):

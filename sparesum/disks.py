@@ -22,10 +22,10 @@ class Disks:
         return [disk for disk, blocks in enumerate(self._settled) if is_whole(blocks)]
 
     def settled(self):
-        return _with_writes(self._settled, [])
+        return with_writes(self._settled, [])
 
     def now(self):
-        return _with_writes(self._settled, self._pending)
+        return with_writes(self._settled, self._pending)
 
     def pending(self):
         return list(self._pending)
@@ -80,11 +80,11 @@ class Disks:
         return content == self._settled[disk][block] or is_between(content, 0, self.array.contents - 1)
 
     def _settle(self, writes):
-        self._settled = _with_writes(self._settled, writes)
+        self._settled = with_writes(self._settled, writes)
         self._pending = []
 
 
-def _with_writes(settled, writes):
+def with_writes(settled, writes):
     """The blocks of all disks behind these writes, in lists of their own."""
     rows = [None if blocks is None else list(blocks) for blocks in settled]
     for disk, block, content in writes:

@@ -1,4 +1,4 @@
-"""Numbers modulo a prime: primes, remainders, and data through points.
+"""Numbers modulo a prime: primes, remainders, data through points; and powers.
 
 The functions at the end ask nothing of their arguments, so that other modules can use them for what they have judged.
 """
@@ -67,6 +67,13 @@ def through(prime, points):
 
 def _have_different_places(prime, points):
     return are_points(points, prime, prime) and len({point[0] for point in points}) == len(points)
+
+
+def power(base, exponent):
+    total = 1
+    for _ in range(exponent):
+        total *= base
+    return total
 
 
 def inverted(prime, number):

@@ -10,11 +10,15 @@ from sparesum.arrays import (Array, all_blocks, blocks_on, head_block, head_code
                              row_code)
 from sparesum.changes import change_groups, finish_groups, granted, is_wish
 from sparesum.codes import Code, agreement, data_from, fits, is_word, mended, word
+from sparesum.counting import (enough, heads_for, is_enough_in_turn, is_exact, least_told, lines_allow, syncs_for,
+                               wishes)
 from sparesum.disks import Disks
-from sparesum.errors import (InvalidBlock, InvalidBlocks, InvalidChanges, InvalidContents, InvalidData, InvalidHeads,
-                             InvalidLeft, InvalidLot, InvalidNumber, InvalidPoints, InvalidRecords, InvalidTold,
-                             InvalidView, InvalidWish)
+from sparesum.errors import (InvalidBlock, InvalidBlocks, InvalidChanges, InvalidContent, InvalidContents, InvalidData,
+                             InvalidEvents, InvalidGroups, InvalidHeads, InvalidLeft, InvalidLot, InvalidNumber,
+                             InvalidPoints, InvalidRecords, InvalidTold, InvalidView, InvalidWish)
+from sparesum.examiner import examine, examine_groups, first_other, left_at, moments, views_left
 from sparesum.heads import can_be_left, is_view, mending, told
+from sparesum.histories import could_be, first_wrong, is_history, is_right
 from sparesum.lots import head_word, is_lot, lot_at, lot_for, lot_number, lot_of
 from sparesum.meaning import inside, is_blocks, read, row_of, row_word, view_of
 from sparesum.numbers import evaluate, greatest_prime, inverse, is_prime, least_prime, through
@@ -40,6 +44,20 @@ LISTED = {
     "changes": {"is_wish": ["array", "value"], "granted": ["array", "told", "wish"],
                 "change_groups": ["array", "blocks", "wish"], "finish_groups": ["array", "blocks"]},
     "stores": {"Store": ["disks"]},
+    "taking": {"take_all": ["store"]},
+    "histories": {"is_history": ["array", "value"], "could_be": ["array", "start", "events"],
+                  "is_right": ["array", "start", "events"], "first_wrong": ["array", "start", "events"]},
+    "examiner": {"views_left": ["array", "lot"], "moments": ["array", "blocks", "wish"],
+                 "left_at": ["array", "blocks", "wish", "moment", "way"], "examine": ["array", "blocks", "wish"],
+                 "examine_groups": ["array", "blocks", "wish", "groups"],
+                 "first_other": ["array", "blocks", "wish", "groups"]},
+    "counting": {"enough": ["disks", "lost", "records", "changes", "contents"],
+                 "wishes": ["need", "records", "changes", "contents"],
+                 "lines_allow": ["blocks", "need", "records", "changes", "contents"],
+                 "least_told": ["disks", "lost", "records", "changes", "contents"],
+                 "is_exact": ["disks", "lost", "records", "changes", "contents"],
+                 "heads_for": ["need", "lost", "symbols", "pending"], "syncs_for": ["heads", "pending"],
+                 "is_enough_in_turn": ["order", "disks", "lost", "symbols", "pending"]},
 }
 
 METHODS = {
@@ -50,6 +68,9 @@ METHODS = {
     Store: {"work": [], "answered": [], "step": [], "finish": [], "records": [], "begin": ["wish"], "cut": ["left"],
             "lose": ["disk"], "replace": ["disk"], "take_in": ["disk"]},
 }
+
+# These change what they are passed: the tests of their own call them by position and by name.
+CALLED_APART = {"take_all"}
 
 # [8] promises these by position alone.
 BY_POSITION = {"replace"}
@@ -82,6 +103,40 @@ def calls():
         (change_groups, [two, [[3, 1, 0, 0, 4], None], [(1, (2,))]],
          [[(0, 4, 2)], [(0, 2, 2)], [(0, 3, 2)], [(0, 1, 2)], [(0, 3, 0)], [(0, 2, 0)]]),
         (finish_groups, [two, [[3, 1, 2, 1, 2], None]], [[(0, 3, 2)], [(0, 1, 2)], [(0, 3, 0)], [(0, 2, 0)]]),
+        *calls_of_histories(), *calls_of_the_examiner(), *calls_of_counting(),
+    ]
+
+
+def calls_of_histories():
+    array, start = Array(2, 1, 2, 1, 5), [(0,), (0,)]
+    events = [("wish", [(0, (1,))]), ("told", [(1,), (0,)]), ("cut",), ("wish", [(1, (2,))]), ("cut",)]
+    return [
+        (is_history, [array, events], True), (is_history, [array, events[1:] + [("done",)]], False),
+        (could_be, [array, start, events], [[(0,), (0,)], [(0,), (2,)], [(1,), (0,)], [(1,), (2,)]]),
+        (is_right, [array, start, events], True), (is_right, [array, start, [("told", [(0,), (1,)])]], False),
+        (first_wrong, [array, start, events + [("told", [(2,), (0,)])]], 5), (first_wrong, [array, start, events], None),
+    ]
+
+
+def calls_of_the_examiner():
+    array, blocks, wish = Array(1, 0, 1, 1, 3), [[1, 0, 0]], [(0, (2,))]
+    return [
+        (views_left, [Array(2, 1, 1, 1, 2), [0]],
+         [[(0, 0)], [(0, 0), (1, 0)], [(0, 1)], [(0, 1), (1, 0)], [(0, 1), (1, 1)], [(1, 0)], [(1, 1)]]),
+        (moments, [array, blocks, wish], 9), (left_at, [array, blocks, wish, 3, 2], [[1, 2, 2]]),
+        (left_at, [array, blocks, wish, 3, "undone"], [[1, 0, 2]]), (examine, [array, blocks, wish], (17, 28, 0)),
+        (left_at, [Array(2, 1, 1, 1, 5), [[1, 0, 0], None], [], 0, "done"], [[1, 0, 0], None]),
+        (examine_groups, [array, blocks, wish, [[(0, 0, 2)]]], (7, 7, 1)),
+        (first_other, [array, blocks, wish, [[(0, 0, 2)]]], (1, 0, [])), (first_other, [array, blocks, wish, [[]]], None),
+    ]
+
+
+def calls_of_counting():
+    return [
+        (enough, [12, 2, 24, 6, 13], 368), (wishes, [2, 2, 2, 2], 15), (lines_allow, [3, 1, 2, 1, 3], True),
+        (least_told, [12, 2, 24, 6, 13], 366), (least_told, [3, 1, 1, 1, 7], None), (is_exact, [8, 2, 18, 3, 821], True),
+        (heads_for, [6, 2, 1, 3], 6), (syncs_for, [5, 2], 8), (is_enough_in_turn, [[0, 1, 0, 1], 2, 1, 1, 2], True),
+        (is_enough_in_turn, [[0, 0, 1, 1], 2, 1, 1, 2], False),
     ]
 
 
@@ -108,6 +163,26 @@ def wrong_calls():
         (granted, [three, [(1, 2), (3, 4)], [[1, (0, 0)]]]), (change_groups, [three, wrong, []]),
         (change_groups, [three, blocks, [[1, (0, 0)]]]), (change_groups, [three, blocks, [(1, (0, 0))]]),
         (finish_groups, [three, wrong]), (finish_groups, [three, [None, None, [2, 2, 2, 4]]]),
+        *wrong_calls_of_stage_4(),
+    ]
+
+
+def wrong_calls_of_stage_4():
+    array, blocks, wish, start = Array(1, 0, 1, 1, 3), [[1, 0, 0]], [(0, (2,))], [(1,)]
+    many = Array(1, 0, 9, 1, 5)
+    cuts = [event for record in range(9) for event in [("wish", [(record, (1,))]), ("cut",)]]
+    return [
+        (is_history, [array, [["cut"]]]), (could_be, [array, [[1]], []]), (could_be, [array, start, [["cut"], [1]]]),
+        (is_right, [array, start, [("told", [[1]])]]), (first_wrong, [array, start, [("wish", [[0, (1,)]])]]),
+        (could_be, [many, [(0,)] * 9, cuts]), (views_left, [array, [[0]]]), (views_left, [Array(12, 11, 2, 1, 13), [0]]),
+        (moments, [array, [[1, 0, [0]]], wish]), (moments, [array, blocks, [[0, (2,)]]]), (moments, [array, [None], wish]),
+        (moments, [array, [[1, 1, 0]], wish]), (left_at, [array, blocks, wish, [3], 2]), (left_at, [array, blocks, wish, 3, [2]]),
+        (examine, [array, [[1, 0, [0]]], wish]), (examine, [Array(12, 11, 1, 1, 13), [[0] * 4] * 12, wish]),
+        (examine_groups, [array, blocks, wish, [[[0, 0, 2]]]]), (examine_groups, [array, blocks, wish, [[]] * 2000]),
+        (first_other, [array, blocks, [[0, (2,)]], []]), (first_other, [array, blocks, wish, [[(0, 0, [2])]]]),
+        (enough, [[12], 2, 24, 6, 13]), (enough, [3, 1, 4, 2, 3]), (wishes, [2, [2], 2, 2]), (lines_allow, [[3], 1, 2, 1, 3]),
+        (least_told, [12, 2, 24, [6], 13]), (is_exact, [12, 2, 24, 6, [13]]), (heads_for, [6, [2], 1, 3]), (syncs_for, [5, [2]]),
+        (is_enough_in_turn, [[0, 1, [0]], 2, 1, 1, 2]), (is_enough_in_turn, [[0, 1], [2], 1, 1, 2]),
     ]
 
 
@@ -224,7 +299,7 @@ class Interface(Checks, unittest.TestCase):
 
     def test_each_listed_name_is_called_here(self):
         called = {function.__name__ for function, _, _ in calls()}
-        called |= {type(make()).__name__ for make, _, _, _ in method_calls()}
+        called |= {type(make()).__name__ for make, _, _, _ in method_calls()} | CALLED_APART
         self.assertEqual(called, {name for names in LISTED.values() for name in names})
         called = {(type(make()), name) for make, name, _, _ in method_calls()}
         listed = {(owner, name) for owner, methods in METHODS.items() for name in methods if name != "__eq__"}
@@ -292,11 +367,20 @@ class Interface(Checks, unittest.TestCase):
                 (granted, InvalidWish, [three, [(1, 3), (0, 0)]], [(0, [0, 0])], []),
                 (change_groups, InvalidWish, [three, [[0] * 4, [0] * 4, [0] * 4]], [(0, [0, 0])], []),
                 (row_of, InvalidBlock, [three, [None] * 3], ["home", 0], []),
-                (open_store().begin, InvalidWish, [], [(0, [0, 0])], []), (new_store().cut, InvalidLeft, [], [[0, 0, 0]], [])]:
+                (open_store().begin, InvalidWish, [], [(0, [0, 0])], []), (new_store().cut, InvalidLeft, [], [[0, 0, 0]], []),
+                (could_be, InvalidTold, [three], [[1, 3], (0, 0)], [[]]),
+                (is_right, InvalidEvents, [three, [(1, 3), (0, 0)]], [["cut"]], []),
+                (first_wrong, InvalidEvents, [three, [(1, 3), (0, 0)]], [("told", [[1, 3], (0, 0)])], []),
+                (could_be, InvalidEvents, [three, [(1, 3), (0, 0)]], [("wish", [[0, (0, 0)]])], []),
+                (moments, InvalidWish, [three, [[0] * 4] * 3], [[0, (0, 0)]], []),
+                (examine, InvalidWish, [three, [[0] * 4] * 3], [(0, [0, 0])], []),
+                (examine_groups, InvalidGroups, [three, [[0] * 4] * 3, []], [[[0, 0, 0]]], []),
+                (first_other, InvalidGroups, [three, [[0] * 4] * 3, []], [[(0, 0, 0)], [[0, 0, 0]]], [])]:
             self.check_given(error_class, wrong, function, *before, wrong, *behind)
         self.assertIs(is_word(code, [1, 4, 2, 0]), False)
         self.assertIs(is_view(array, [[0, 1]]), False)
         self.assertIs(is_wish(three, [[0, (0, 0)]]), False)
+        self.assertIs(is_history(three, [["cut"]]), False)
 
     def test_arguments_stay_as_they_were(self):
         for function, values in [(function, values) for function, values, _ in calls()] + wrong_calls():
@@ -341,7 +425,13 @@ class Interface(Checks, unittest.TestCase):
                 (InvalidTold, [()], granted, [array], [[]]), (InvalidWish, [()], granted, [array, [(0, 0, 0)] * 6], []),
                 (InvalidBlocks, [None], change_groups, [array], [[]]), (InvalidWish, [()], change_groups, [array, [None] * 4], []),
                 (InvalidBlocks, [None], finish_groups, [array], []), (InvalidWish, [()], open_store().begin, [], []),
-                (InvalidLeft, [()], open_store().cut, [], [])]:
+                (InvalidLeft, [()], open_store().cut, [], []), (InvalidTold, [()], could_be, [array], [[]]),
+                (InvalidEvents, [()], is_right, [array, [(0, 0, 0)] * 6], []), (InvalidLot, [0], views_left, [array], []),
+                (InvalidBlocks, [None], moments, [array], [[]]), (InvalidWish, [()], examine, [array, [None] * 4], []),
+                (InvalidNumber, [0], left_at, [Array(1, 0, 1, 1, 3), [[0, 0, 0]], []], ["done"]),
+                (InvalidContent, ["done"], left_at, [Array(1, 0, 1, 1, 3), [[0, 0, 0]], [], 0], []),
+                (InvalidGroups, [(0,)], first_other, [Array(1, 0, 1, 1, 3), [[0, 0, 0]], []], []),
+                (InvalidHeads, [0, 2], is_enough_in_turn, [], [2, 1, 1, 1]), (InvalidHeads, [5], syncs_for, [], [2])]:
             error = caught(function, *before, wrong, *behind)
             self.assertIs(type(error), error_class)
             wrong.append([9])

@@ -1,0 +1,14 @@
+"""Back to all disks: lost disks are replaced, and all that are not in are taken in."""
+
+
+def take_all(store):
+    if store.work() is not None:
+        store.finish()
+    disks = store.disks
+    for disk in disks.lost():
+        store.replace(disk)
+    missing = sorted(set(range(disks.array.disks)) - set(disks.inside()))
+    for disk in missing:
+        store.take_in(disk)
+        store.finish()
+    return missing
