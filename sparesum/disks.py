@@ -68,6 +68,13 @@ class Disks:
                 raise NotLeft(item)
         self._settle(left)
 
+    def twin(self):
+        """Disks of the same array on which all is as it is on these; each of both goes on by itself."""
+        other = Disks(self.array)
+        other._settled = self.settled()
+        other._pending = self.pending()
+        return other
+
     def _ask_there(self, disk):
         if not is_disk(self.array, disk):
             raise InvalidDisk(disk)

@@ -9,7 +9,7 @@ from sparesum.errors import TooMany
 from sparesum.lots import head_word, is_lot
 from sparesum.meaning import inside, is_blocks, read
 from sparesum.numbers import power
-from sparesum.shapes import is_between, is_list, is_tuple_of
+from sparesum.shapes import is_between, is_integer, is_list, is_tuple_of
 
 MOST_VIEWS = 20000
 MOST_BLOCKS = 30000
@@ -104,8 +104,10 @@ def _ask_groups(array, blocks, wish, groups):
         raise InvalidBlocks(blocks)
     if not is_wish(array, wish):
         raise InvalidWish(wish)
+    # Too few disks that are in count ahead of wrong groups.
     read(array, blocks)
-    if not is_list(groups) or not all([_is_group(array, inside(array, blocks), group) for group in groups]):
+    disks = inside(array, blocks)
+    if not is_list(groups) or not all([_is_group(array, disks, group) for group in groups]):
         raise InvalidGroups(groups)
 
 
@@ -115,7 +117,7 @@ def _is_group(array, disks, value):
 
 def _is_write(array, disks, value):
     """Whether the value is a write to a block of one of these disks."""
-    if not is_tuple_of(value, 3) or not is_between(value[0], 0, array.disks - 1) or value[0] not in disks:
+    if not is_tuple_of(value, 3) or not is_integer(value[0]) or value[0] not in disks:
         return False
     return is_between(value[1], 0, blocks_on(array, value[0]) - 1) and is_between(value[2], 0, array.contents - 1)
 

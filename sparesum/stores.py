@@ -83,6 +83,14 @@ class Store:
             raise IsLost(disk)
         self._turn_to(("taking", disk), None)
 
+    def twin(self):
+        """A store that is as this one is, on disks of its own; each of both goes on by itself."""
+        other = Store(self.disks.twin())
+        other._answered = list(self._answered)
+        other._work = self._work
+        other._steps = None if self._steps is None else list(self._steps)
+        return other
+
     def _is_at(self, kind):
         return self._work is not None and self._work[0] == kind
 

@@ -5,7 +5,8 @@ def take_all(store):
     if store.work() is not None:
         store.finish()
     disks = store.disks
-    for disk in disks.lost():
+    lost = disks.lost()
+    for disk in lost:
         store.replace(disk)
     missing = sorted(set(range(disks.array.disks)) - set(disks.inside()))
     for disk in missing:

@@ -3,7 +3,7 @@
 import itertools
 import unittest
 
-from checks import Checks, Plain, Touchy, caught, no_integers
+from checks import Checks, Plain, caught, no_integers
 from reckoning import PRIMES, Own
 from sparesum.arrays import (Array, all_blocks, blocks_on, head_block, head_code, heads_on, home_block, new_block,
                              row_code)

@@ -4,7 +4,7 @@ import itertools
 import random
 import unittest
 
-from checks import Checks, caught, no_integers, no_lists, no_tuples
+from checks import Checks, Plain, Touchy, caught, no_integers, no_lists, no_tuples
 from reckoning import OwnBlocks
 from storing import SOME, opened
 from sparesum.arrays import Array
@@ -120,7 +120,8 @@ class Events(Base):
         yield from [*no_tuples(), (), (None,), (True,), ([],), ("",), ("Cut",), ("cut ",), ("open",), ("lost",), ("opening",), "cut", ["cut"],
                     ["done"], ["wish", [item]], ["told", told], ("wish",), ("told",), ("cut", None), ("done", None), ("cut", []),
                     ("done", [item]), ("wish", [item], None), ("told", told, None), ("wish", item), ("told", told[0]),
-                    ("wish", told), ("told", [item]), (("wish", [item]),), (("cut",),), ("wish", [item, item]), (0, [item])]
+                    ("wish", told), ("told", [item]), (("wish", [item]),), (("cut",),), ("wish", [item, item]), (0, [item]), (Touchy(),),
+                    (Touchy(), told), (Plain(), [item]), ("tell", told), ("", told), (None, told), ("Told", told), ("wishes", [item])]
         wrong = [*no_lists(), [(own.m, (0,) * own.d)], [(-1, (0,) * own.d)], [(True, (0,) * own.d)], [[0, (0,) * own.d]],
                  [(0, [0] * own.d)], [(0, (0,) * (own.d + 1))], [(0, (own.q,) * own.d)], [(0, (True,) * own.d)], [(0,)],
                  [(record, (0,) * own.d) for record in range(own.k + 1)]]

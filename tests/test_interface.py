@@ -3,6 +3,7 @@
 import copy
 import importlib
 import inspect
+import itertools
 import unittest
 
 from checks import Checks, caught
@@ -14,14 +15,19 @@ from sparesum.counting import (enough, heads_for, is_enough_in_turn, is_exact, l
                                wishes)
 from sparesum.disks import Disks
 from sparesum.errors import (InvalidBlock, InvalidBlocks, InvalidChanges, InvalidContent, InvalidContents, InvalidData,
-                             InvalidEvents, InvalidGroups, InvalidHeads, InvalidLeft, InvalidLot, InvalidNumber,
-                             InvalidPoints, InvalidRecords, InvalidTold, InvalidView, InvalidWish)
+                             InvalidEntries, InvalidEvents, InvalidGroups, InvalidHeads, InvalidKind, InvalidLeft, InvalidLot,
+                             InvalidNames, InvalidNumber, InvalidPaths, InvalidPoints, InvalidRecords, InvalidRests,
+                             InvalidText, InvalidTold, InvalidValue, InvalidView, InvalidWish)
 from sparesum.examiner import examine, examine_groups, first_other, left_at, moments, views_left
+from sparesum.few import three_can_be_left, three_mending, three_steps, three_told, two_mending, two_steps, two_told
 from sparesum.heads import can_be_left, is_view, mending, told
 from sparesum.histories import could_be, first_wrong, is_history, is_right
+from sparesum.kinds import Kind, clash, content, contents, explains, is_clash, is_rest, needed, settling, tell
 from sparesum.lots import head_word, is_lot, lot_at, lot_for, lot_number, lot_of
 from sparesum.meaning import inside, is_blocks, read, row_of, row_word, view_of
 from sparesum.numbers import evaluate, greatest_prime, inverse, is_prime, least_prime, through
+from sparesum.plans import Plan, first_break, is_break, line_count, line_of, turning
+from sparesum.sessions import Desk, Session, history_of, play
 from sparesum.stores import Store
 
 LISTED = {
@@ -58,6 +64,17 @@ LISTED = {
                  "is_exact": ["disks", "lost", "records", "changes", "contents"],
                  "heads_for": ["need", "lost", "symbols", "pending"], "syncs_for": ["heads", "pending"],
                  "is_enough_in_turn": ["order", "disks", "lost", "symbols", "pending"]},
+    "kinds": {"Kind": ["name", "prime", "symbols", "pending"], "is_rest": ["kind", "value"],
+              "content": ["kind", "rest", "place"], "contents": ["kind"], "needed": ["kind"],
+              "explains": ["kind", "view", "new", "old", "at"], "tell": ["kind", "view"], "clash": ["kind"],
+              "is_clash": ["kind", "value"], "settling": ["kind", "view"]},
+    "few": {"two_told": ["view"], "two_mending": ["view"], "two_steps": ["view", "value"], "three_steps": ["view", "new"],
+            "three_can_be_left": ["view"], "three_told": ["view"], "three_mending": ["view"]},
+    "plans": {"Plan": ["blocks", "contents", "kept", "entries", "rests", "paths"], "line_of": ["plan", "number", "block"],
+              "is_break": ["plan", "value"], "first_break": ["plan"], "turning": ["plan", "old", "new"],
+              "line_count": ["plan"]},
+    "sessions": {"Session": ["names", "array"], "play": ["names", "array", "lines"],
+                 "history_of": ["names", "array", "lines"], "Desk": ["names", "array"]},
 }
 
 METHODS = {
@@ -67,6 +84,10 @@ METHODS = {
             "sync": [], "lose": ["disk"], "replace": ["disk"], "cut": ["left"]},
     Store: {"work": [], "answered": [], "step": [], "finish": [], "records": [], "begin": ["wish"], "cut": ["left"],
             "lose": ["disk"], "replace": ["disk"], "take_in": ["disk"]},
+    Kind: {"__eq__": None},
+    Plan: {"__eq__": None},
+    Session: {"do": ["line"]},
+    Desk: {"do": ["line"], "undo": [], "redo": [], "lines": []},
 }
 
 # These change what they are passed: the tests of their own call them by position and by name.
@@ -103,7 +124,55 @@ def calls():
         (change_groups, [two, [[3, 1, 0, 0, 4], None], [(1, (2,))]],
          [[(0, 4, 2)], [(0, 2, 2)], [(0, 3, 2)], [(0, 1, 2)], [(0, 3, 0)], [(0, 2, 0)]]),
         (finish_groups, [two, [[3, 1, 2, 1, 2], None]], [[(0, 3, 2)], [(0, 1, 2)], [(0, 3, 0)], [(0, 2, 0)]]),
-        *calls_of_histories(), *calls_of_the_examiner(), *calls_of_counting(),
+        *calls_of_histories(), *calls_of_the_examiner(), *calls_of_counting(), *calls_of_kinds(), *calls_of_few(),
+        *calls_of_plans(), *calls_of_sessions(),
+    ]
+
+
+def calls_of_kinds():
+    star, bit, plain = Kind("star", 5, 2, 1), Kind("bit", 5, 1, 1), Kind("plain", 5, 1, 1)
+    return [
+        (Kind, ["star", 5, 2, 1], star), (is_rest, [star, None], True), (is_rest, [plain, (5,)], False),
+        (content, [bit, (1, (4,)), 0], 9), (contents, [bit], 10), (needed, [plain], 3),
+        (explains, [plain, [(0, 2), (1, 4), (2, 4)], (2,), (4,), 1], True), (tell, [star, [(0, 2), (2, 3), (3, 5)]], (1, 3)),
+        (tell, [star, [(0, 2), (2, 3), (3, 0)]], None), (clash, [plain], clash(plain)), (is_clash, [plain, clash(plain)], True),
+        (is_clash, [star, clash(plain)], False), (settling, [star, [(0, 2), (2, 3), (3, 0)]], [[(2, 0)], [(0, 0)]]),
+        (settling, [bit, [(0, 7), (1, 3), (2, 1)]], [[(1, 1)], [(0, 1)]]),
+    ]
+
+
+def calls_of_few():
+    return [
+        (two_told, [[0, 7, 1]], 1), (two_mending, [[0, 7, 1]], [(0, 1)]), (two_steps, [[0, 0], 1], [(0, 1), (1, 1)]),
+        (three_steps, [[2, 2, 2], 1], [(2, 1), (1, 1), (0, 1)]), (three_can_be_left, [[2, 0, 1, 1, 0]], False),
+        (three_told, [[9, 2]], 2), (three_mending, [[2, 5, 1, 1]], [(1, 2), (2, 2), (3, 2)]), (three_steps, [[0, 0], 0], []),
+    ]
+
+
+def plan_values():
+    paths = [[[], [(1, 0), (0, 1)], [(1, 1), (0, 1)]], [[(0, 0)], [], [(1, 1)]], [[(0, 0)], [(1, 0)], []]]
+    return [2, 2, 3, [0, 0, 1, 2], [0, 2, 3], paths]
+
+
+def worse_plan():
+    return Plan(1, 3, 3, [0, 1, 2], [0, 1, 2], [[[], [(0, 1)], [(0, 2)]], [[(0, 0)], [], [(0, 2)]], [[(0, 0)], [(0, 1)], []]])
+
+
+def calls_of_plans():
+    plan = Plan(*plan_values())
+    return [
+        (Plan, plan_values(), plan), (line_of, [plan, 1, 0], [1, 3]), (is_break, [worse_plan(), (2, 0, 0, 1)], True),
+        (is_break, [plan, (2, 0, 0, 1)], False), (first_break, [worse_plan()], (0, 1, 0, 2)), (first_break, [plan], None),
+        (turning, [plan, 1, 2], (2, 1)), (line_count, [plan], 4),
+    ]
+
+
+def calls_of_sessions():
+    array, names = Array(3, 1, 2, 1, 5), ["a", "b"]
+    return [
+        (play, [names, array, ["set b 1 3", "show"]], ["done", "a 0 0 b 1 3"]),
+        (history_of, [names, array, ["begin b 1 3", "step", "cut", "finish", "show a"]],
+         [("wish", [(1, (1, 3))]), ("cut",), ("told", [(0, 0), (0, 0)])]),
     ]
 
 
@@ -163,7 +232,7 @@ def wrong_calls():
         (granted, [three, [(1, 2), (3, 4)], [[1, (0, 0)]]]), (change_groups, [three, wrong, []]),
         (change_groups, [three, blocks, [[1, (0, 0)]]]), (change_groups, [three, blocks, [(1, (0, 0))]]),
         (finish_groups, [three, wrong]), (finish_groups, [three, [None, None, [2, 2, 2, 4]]]),
-        *wrong_calls_of_stage_4(),
+        *wrong_calls_of_stage_4(), *wrong_calls_of_stage_5(),
     ]
 
 
@@ -184,6 +253,39 @@ def wrong_calls_of_stage_4():
         (least_told, [12, 2, 24, [6], 13]), (is_exact, [12, 2, 24, 6, [13]]), (heads_for, [6, [2], 1, 3]), (syncs_for, [5, [2]]),
         (is_enough_in_turn, [[0, 1, [0]], 2, 1, 1, 2]), (is_enough_in_turn, [[0, 1], [2], 1, 1, 2]),
     ]
+
+
+def wrong_calls_of_stage_5():
+    star, plain, plan = Kind("star", 5, 2, 1), Kind("plain", 5, 1, 1), Plan(*plan_values())
+    three, array, names = Kind("plain", 3, 1, 1), Array(3, 1, 2, 1, 5), ["a", "b"]
+    return [
+        (Kind, [["star"], 5, 2, 1]), (Kind, ["star", [5], 2, 1]), (Kind, ["star", 5, 2, [1]]), (Kind, ["plain", 5, 2, 1]),
+        (is_rest, [star, [1, 3]]), (content, [star, [1, 3], 0]), (content, [star, (1, 3), [0]]), (explains, [plain, [[0, 1]], (1,), (1,), 0]),
+        (explains, [plain, [(0, 1)], [1], (1,), 0]), (explains, [plain, [(0, 1)], (1,), [1], 0]), (explains, [plain, [(0, 1)], (1,), (1,), [0]]),
+        (tell, [star, [[0, 1]]]), (tell, [star, [(0, 1)]]), (clash, [three]), (is_clash, [three, None]), (is_clash, [plain, list(clash(plain))]),
+        (settling, [star, [(1, 1), (0, 1)]]), (settling, [star, []]), (two_told, [[]]), (two_mending, [[[0]]]), (two_steps, [[0], [1]]),
+        (two_steps, [[997], 1]), (three_steps, [[0, 0], [1]]), (three_steps, [[0, 2], 1]), (three_can_be_left, [[1]]),
+        (three_told, [[2, 0, 1, 1, 0]]), (three_mending, [[3, 3]]), (three_mending, [[0]]), (Plan, [*plan_values()[:3], [0, 0, 1], [0, 2, 3], []]),
+        (Plan, [*plan_values()[:4], [0, 2, 1], []]), (Plan, [*plan_values()[:5], [[[], [[1, 0]]]]]), (Plan, [16, 64, 1, [], [], []]),
+        (line_of, [plan, [1], 0]), (line_of, [plan, 1, [0]]), (is_break, [worse_plan(), [2, 0, 0, 1]]), (turning, [plan, [0], 1]),
+        (turning, [plan, 0, 0]), (turning, [worse_plan(), 0, 1]), (play, [["a"], array, []]), (play, [names, array, ["show"] * 401]),
+        (play, [names, array, ["show", ["show"]]]), (history_of, [["a", ["b"]], array, []]), (history_of, [names, array, ["step"]]),
+        (Session, [["a", "A"], array]), (Desk, [["a", "a"], array]),
+    ]
+
+
+def new_session():
+    return Session(["a", "b"], Array(3, 1, 2, 1, 5))
+
+
+def desk_with_lines():
+    """A desk with two lines that stand, and one that is undone."""
+    desk = Desk(["a", "b"], Array(3, 1, 2, 1, 5))
+    desk.do("set a 1 2")
+    desk.do("lose 0")
+    desk.do("begin b 1 1")
+    desk.undo()
+    return desk
 
 
 def disks_with_writes():
@@ -235,6 +337,8 @@ def method_calls():
         (busy_store, "finish", [], 22), (busy_store, "records", [], [(1, 2), (0, 0)]),
         (open_store, "begin", [[(1, (3, 4))]], None), (busy_store, "cut", [[(0, 3, 2)]], None),
         (busy_store, "lose", [0], None), (lacking_store, "replace", [2], None), (open_store, "take_in", [1], None),
+        (new_session, "do", ["set b 1 3"], "done"), (desk_with_lines, "do", ["show"], "a 1 2 b 0 0"),
+        (desk_with_lines, "undo", [], None), (desk_with_lines, "redo", [], None), (desk_with_lines, "lines", [], ["set a 1 2", "lose 0"]),
     ]
 
 
@@ -251,7 +355,9 @@ def wrong_method_calls():
         (busy_store, "cut", [[[0, 3, 2]]]), (busy_store, "cut", [[(0, 3, 2), (1, 3, 2)]]), (busy_store, "lose", [[0]]),
         (lacking_store, "lose", [0]), (lacking_store, "lose", [2]), (lacking_store, "replace", [[2]]),
         (lacking_store, "replace", [1]), (open_store, "take_in", [[1]]), (lacking_store, "take_in", [2]),
-        (busy_store, "take_in", [1]), (new_store, "take_in", [1]),
+        (busy_store, "take_in", [1]), (new_store, "take_in", [1]), (new_session, "do", [["show"]]), (new_session, "do", ["step"]),
+        (new_session, "do", ["cut 0 0 0 0 0 1"]), (desk_with_lines, "do", [{"a": ["show"]}]), (desk_with_lines, "do", ["lose 1"]),
+        (lambda: Desk(["a", "b"], Array(3, 1, 2, 1, 5)), "undo", []), (lambda: Desk(["a", "b"], Array(3, 1, 2, 1, 5)), "redo", []),
     ]
 
 
@@ -259,7 +365,20 @@ def state_of(thing):
     """What an object tells by its methods that change nothing."""
     if isinstance(thing, Store):
         return [thing.work(), thing.answered(), state_of(thing.disks)]
+    if isinstance(thing, (Session, Desk)):
+        other, told_now = copy.deepcopy(thing), other_lines(thing)
+        return told_now + [caught(other.do, line) or other.do(line) for line in ["disks", "why", "lacks 0", "show"]]
     return [thing.lost(), thing.inside(), thing.settled(), thing.now(), thing.pending()]
+
+
+def other_lines(thing):
+    """The lines of a desk that stand, and how many could be done again."""
+    if isinstance(thing, Session):
+        return []
+    other, count = copy.deepcopy(thing), 0
+    while caught(other.redo) is None:
+        count += 1
+    return [thing.lines(), count]
 
 
 def as_tuples(value):
@@ -375,12 +494,19 @@ class Interface(Checks, unittest.TestCase):
                 (moments, InvalidWish, [three, [[0] * 4] * 3], [[0, (0, 0)]], []),
                 (examine, InvalidWish, [three, [[0] * 4] * 3], [(0, [0, 0])], []),
                 (examine_groups, InvalidGroups, [three, [[0] * 4] * 3, []], [[[0, 0, 0]]], []),
-                (first_other, InvalidGroups, [three, [[0] * 4] * 3, []], [[(0, 0, 0)], [[0, 0, 0]]], [])]:
+                (first_other, InvalidGroups, [three, [[0] * 4] * 3, []], [[(0, 0, 0)], [[0, 0, 0]]], []),
+                (content, InvalidValue, [Kind("plain", 5, 1, 1)], [1], [0]), (tell, InvalidView, [Kind("plain", 5, 1, 1)], [[0, 1]], []),
+                (explains, InvalidValue, [Kind("plain", 5, 1, 1), []], [1], [(1,), 0]),
+                (explains, InvalidValue, [Kind("bit", 5, 1, 1), [], (1, (1,))], (0, [1]), [0]),
+                (Plan, InvalidPaths, plan_values()[:5], [[[], [[1, 0]], []], [[], [], []], [[], [], []]], [])]:
             self.check_given(error_class, wrong, function, *before, wrong, *behind)
         self.assertIs(is_word(code, [1, 4, 2, 0]), False)
         self.assertIs(is_view(array, [[0, 1]]), False)
         self.assertIs(is_wish(three, [[0, (0, 0)]]), False)
         self.assertIs(is_history(three, [["cut"]]), False)
+        self.assertIs(is_rest(Kind("plain", 5, 1, 1), [1]), False)
+        self.assertIs(is_clash(Kind("plain", 5, 1, 1), list(clash(Kind("plain", 5, 1, 1)))), False)
+        self.assertIs(is_break(worse_plan(), [2, 0, 0, 1]), False)
 
     def test_arguments_stay_as_they_were(self):
         for function, values in [(function, values) for function, values, _ in calls()] + wrong_calls():
@@ -431,27 +557,47 @@ class Interface(Checks, unittest.TestCase):
                 (InvalidNumber, [0], left_at, [Array(1, 0, 1, 1, 3), [[0, 0, 0]], []], ["done"]),
                 (InvalidContent, ["done"], left_at, [Array(1, 0, 1, 1, 3), [[0, 0, 0]], [], 0], []),
                 (InvalidGroups, [(0,)], first_other, [Array(1, 0, 1, 1, 3), [[0, 0, 0]], []], []),
-                (InvalidHeads, [0, 2], is_enough_in_turn, [], [2, 1, 1, 1]), (InvalidHeads, [5], syncs_for, [], [2])]:
+                (InvalidHeads, [0, 2], is_enough_in_turn, [], [2, 1, 1, 1]), (InvalidHeads, [5], syncs_for, [], [2]),
+                (InvalidKind, ["star"], Kind, [], [5, 2, 1]), (InvalidValue, [1], content, [Kind("plain", 5, 1, 1)], [0]),
+                (InvalidView, [[0, 1]], tell, [Kind("plain", 5, 1, 1)], []), (InvalidView, [997], two_told, [], []),
+                (InvalidView, [0, 2], three_steps, [], [1]), (InvalidValue, [1], two_steps, [[0]], []),
+                (InvalidEntries, [0], Plan, [2, 2, 3], [[0, 2, 3], []]), (InvalidRests, [0], Plan, plan_values()[:4], [[]]),
+                (InvalidPaths, [[]], Plan, plan_values()[:5], []), (InvalidNames, ["a", "A"], Session, [], [Array(3, 1, 2, 1, 5)]),
+                (InvalidNames, ["a", "a"], play, [], [Array(3, 1, 2, 1, 5), []]), (InvalidText, ["show"], new_session().do, [], [])]:
             error = caught(function, *before, wrong, *behind)
             self.assertIs(type(error), error_class)
             wrong.append([9])
             self.assertIs(error.given, wrong)
             self.assertEqual(error.given[-1], [9])
 
-    def test_codes_and_arrays_are_not_changed(self):
-        code, array = Code(5, 4, 2), Array(4, 1, 6, 3, 13)
-        kept = [dict(vars(code)), dict(vars(array))]
-        self.assertEqual(kept[0], {"prime": 5, "length": 4, "symbols": 2})
+    def test_codes_arrays_kinds_and_plans_are_not_changed(self):
         for function, values in [(function, values) for function, values, _ in calls()] + wrong_calls():
-            if values and isinstance(values[0], (Code, Array)):
-                caught(function, code if isinstance(values[0], Code) else array, *values[1:])
-                self.assertEqual([vars(code), vars(array)], kept)
+            for thing in values:
+                if isinstance(thing, (Code, Array, Kind, Plan)):
+                    kept = copy.deepcopy(vars(thing))
+                    caught(function, *values)
+                    self.check_same(kept, vars(thing))
         for make, name, values in [row[:3] for row in method_calls()] + wrong_method_calls():
             thing = make()
-            array = thing.disks.array if isinstance(thing, Store) else thing.array
-            kept = dict(vars(array))
-            caught(getattr(thing, name), *values)
-            self.assertEqual(vars(array), kept)
+            if not isinstance(thing, (Session, Desk)):
+                array = thing.disks.array if isinstance(thing, Store) else thing.array
+                kept = dict(vars(array))
+                caught(getattr(thing, name), *values)
+                self.assertEqual(vars(array), kept)
+
+    def test_objects_of_different_classes_are_not_equal(self):
+        things = [Code(5, 4, 2), Array(4, 1, 6, 3, 13), Kind("plain", 5, 1, 1), Plan(*plan_values()), new_session(), desk_with_lines(), new_store(),
+                  disks_with_writes(), None, True, 5, "plain", [], (5, 4, 2), {}, ("plain", 5, 1, 1)]
+        for one, other in itertools.permutations(things, 2):
+            self.assertFalse(one == other)
+            self.assertTrue(one != other)
+
+    def test_listed_attributes_are_set_at_once(self):
+        for thing, names in [(Code(5, 4, 2), "prime length symbols"), (Array(4, 1, 6, 3, 13), "disks lost records changes contents need lots symbols prime heads"),
+                             (Kind("plain", 5, 1, 1), "name prime symbols pending"), (Plan(*plan_values()), "blocks contents kept entries rests paths"),
+                             (Disks(Array(2, 1, 1, 1, 5)), "array"), (new_store(), "disks")]:
+            for name in names.split():
+                self.assertIn(name, vars(thing))
 
 
 if __name__ == "__main__":
