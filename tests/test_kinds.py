@@ -436,12 +436,16 @@ class Clashes(Checks, unittest.TestCase):
 
     def test_every_kind(self):
         count = 0
-        for name, p, j, e in itertools.product(NAMES, [5, 7, 11, 13, 17, 31, 37, 67, 79, 83, 199, 997], [1, 2, 3, 4, 5, 7, 11, 16], [1, 2, 3, 4, 7, 16]):
+        for name, p, j, e in itertools.product(NAMES, PRIMES[2:22], range(1, 17), range(1, 17)):
             own = OwnKind(name, p, j, e)
             if own.needed <= p:
                 count += 1
                 self.check_clash(Kind(name, p, j, e), own, clash(Kind(name, p, j, e)))
-        self.assertGreater(count, 500)
+        self.assertGreater(count, 5000)
+
+    def test_great_kinds(self):
+        for name, p, j, e in itertools.product(NAMES, [83, 199, 499, 997], [1, 2, 7, 16], [1, 2, 7, 16]):
+            self.check_clash(Kind(name, p, j, e), OwnKind(name, p, j, e), clash(Kind(name, p, j, e)))
 
     def test_all_primes(self):
         for p in PRIMES[2:]:
