@@ -74,7 +74,8 @@ def _behind(possible, under_way, event):
     if event[0] == "told":
         told = tuple(event[1])
         return [records for records in possible if told in (records, _granted(records, under_way))]
-    if event[0] == "wish" or under_way is None:
+    if under_way is None:
+        # A wish begins, or a cut ends none.
         return possible
     new = [_granted(records, under_way) for records in possible]
     found = new if event[0] == "done" else possible + new
