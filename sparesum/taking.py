@@ -8,7 +8,7 @@ def take_all(store):
     lost = disks.lost()
     for disk in lost:
         store.replace(disk)
-    missing = sorted(set(range(disks.array.disks)) - set(disks.inside()))
+    missing = sorted(set(list(range(disks.array.disks))) - set(disks.inside()))
     for disk in missing:
         store.take_in(disk)
         store.finish()
